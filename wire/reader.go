@@ -21,25 +21,29 @@ func Read(b []byte) *Reader {
 }
 
 // Num reads a number that is not below 0.
-func (r *Reader) Num() (n int) {
+func (r *Reader) Num() int {
+	var n int
 	r.catch(func() { n = r.num() })
 	return n
 }
 
 // Int reads any number.
-func (r *Reader) Int() (n int) {
+func (r *Reader) Int() int {
+	var n int
 	r.catch(func() { n = unzigzag(r.varint()) })
 	return n
 }
 
 // Bytes reads bytes that have their number ahead.
-func (r *Reader) Bytes() (b []byte) {
+func (r *Reader) Bytes() []byte {
+	var b []byte
 	r.catch(func() { b = bytes.Clone(r.counted()) })
 	return b
 }
 
 // Text reads a text that has the number of its bytes ahead.
-func (r *Reader) Text() (s string) {
+func (r *Reader) Text() string {
+	var s string
 	r.catch(func() { s = string(r.counted()) })
 	return s
 }
