@@ -240,7 +240,9 @@ func (p *plain) Tick() []api.Msg {
 		if n >= 1<<40 || p.round >= 1<<40 {
 			return p.wear()
 		}
-		p.ballot = n + 1
+		if p.wrong != "the same ballot again" {
+			p.ballot = n + 1
+		}
 		p.round++
 		p.taken = nil
 		return p.phase(inFirst, p.group)

@@ -5,6 +5,7 @@ import (
 	"math/rand"
 	"slices"
 	"strconv"
+	"strings"
 	"testing"
 
 	"cairn/acceptor"
@@ -223,6 +224,68 @@ func TestP911WrongRulesAreFoundOut(t *testing.T) {
 		if fault := found(wrong, 1, 200000, ends{}); fault == "" {
 			t.Errorf("%s: no play tells a fault", wrong)
 		}
+	}
+}
+
+// hand brings one of these messages to an acceptor, and the answer back; it tells what the proposer tells then.
+func (p *play) hand(s *side, list []api.Msg, to int) []api.Msg {
+	i := slices.IndexFunc(list, func(m api.Msg) bool { return m.To.Id == to })
+	instance, answers := answered(p.at[to], list[i])
+	p.at[to] = instance
+	list = nil
+	for _, m := range answers {
+		list = s.do(step{"Take", m})
+	}
+	p.hold()
+	return list
+}
+
+// late plays what random plays hardly come to: an MAccept of the first proposer is late, the ballot of which was refused meanwhile. It tells the fault, if there is one.
+func late(wrong string) string {
+	p := &play{at: map[int]api.Instance{}, servers: []int{1, 2, 3}}
+	for client, ballot := range []int{2, 3, 1} {
+		of := plain{client: client + 1, op: 4, key: key, group: p.servers, ballot: ballot, round: 1, wrong: wrong}
+		of.own = api.Command{Kind: api.CCreate, Client: client + 1, Op: 4, Name: "of " + strconv.Itoa(client+1)}
+		p.sides = append(p.sides, newSide(of))
+	}
+	one, two, three := p.sides[0], p.sides[1], p.sides[2]
+	list := three.do(beginning)
+	p.hand(three, list, 1)
+	p.hand(three, p.hand(three, list, 3), 3) // 3 alone has accepted the third one's command
+	list = one.do(beginning)
+	p.hand(one, list, 1)
+	old := p.hand(one, list, 2)
+	higher := two.do(beginning)
+	p.hand(two, higher, 1)
+	p.hand(one, old, 1) // refused
+	list = one.do(step{call: "Tick"})
+	p.hand(one, list, 2)
+	list = p.hand(one, list, 3)
+	p.hand(one, list, 2)
+	p.hand(one, list, 3)
+	if c, is := one.words.Decided(); !is || c != three.words.own {
+		return fmt.Sprintf("the first one tells %v, %v as decided", c, is)
+	}
+	p.hand(one, old, 2)
+	if list = p.hand(two, higher, 2); len(list) == 0 {
+		list = two.do(step{call: "Tick"})
+		p.hand(two, list, 1)
+		list = p.hand(two, list, 2)
+	}
+	p.hand(two, list, 1)
+	p.hand(two, list, 2)
+	if _, is := two.words.Decided(); !is && p.fault == "" {
+		return "the second one comes to no decision"
+	}
+	return p.fault
+}
+
+func TestP911LateAcceptOfARefusedBallot(t *testing.T) {
+	if fault := late(""); fault != "" {
+		t.Error(fault)
+	}
+	if fault := late("the same ballot again"); !strings.HasPrefix(fault, "two commands are decided") {
+		t.Errorf("a ballot that does not rise is not found out: %s", fault)
 	}
 }
 
