@@ -8,18 +8,6 @@ import (
 	"cairn/api"
 )
 
-// tears are at which bytes a write is torn; few where there are many writes.
-func tears(many bool) []int {
-	if many {
-		return []int{0, 1, 2, 31, 32, 100, 255, 510, 511, 512}
-	}
-	var list []int
-	for n := range api.Sector + 1 {
-		list = append(list, n)
-	}
-	return list
-}
-
 // A fall at each write of a step's disk, torn at each byte: the server that is started holds what was held behind some number of the step's records.
 func TestP1309TornAtEachByte(t *testing.T) {
 	for _, x := range steps() {
@@ -34,7 +22,7 @@ func TestP1309TornAtEachByte(t *testing.T) {
 				t.Fatalf("%d writes of %d records", writes, x.records)
 			}
 			for n := range writes {
-				for _, torn := range tears(writes > 3) {
+				for torn := range api.Sector + 1 {
 					fall(t, x, states, image, n, torn)
 				}
 				s, d := x.ready(t, 60)
@@ -162,7 +150,7 @@ func TestP1309GreatRecords(t *testing.T) {
 			t.Fatalf("%s: %d writes: these are no great records", x.name, writes)
 		}
 		for n := range writes {
-			for _, torn := range tears(true) {
+			for _, torn := range []int{0, 1, 2, 31, 32, 100, 255, 510, 511, 512} {
 				fall(t, x, states, image, n, torn)
 			}
 		}
