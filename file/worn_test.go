@@ -311,3 +311,29 @@ func TestP1504TagsUsedUp(t *testing.T) {
 		}
 	}
 }
+
+// Rules broken on purpose of what is worn, and of what is refused: the tests above would find them out.
+func TestWrongEndsAreFoundOut(t *testing.T) {
+	o := writeAt("oar", 5, 9, 9, 9, 9)
+	wanted := file.Parts(o, entry("oar", oar, 6), 4)
+	for _, x := range []struct {
+		wrong string
+		left  int // numbers behind the Lookup's
+		whole int // parts that are whole ahead of the end of the rounds; 0: these do not end
+	}{
+		{"worn one early", wanted, 0}, {"worn one late", wanted - 1, 0}, {"a refused block is passed over", wanted, 1}, {"a refused block is passed over", wanted, 3},
+	} {
+		s := newHall(t, small()).twins(t, me, x.wrong)
+		s.run(t, create("oar"))
+		s.run(t, writeAt("oar", 0, 1, 2, 3, 4, 5, 6))
+		mustAgree(t, s)
+		if s.set("number", api.MaxNum-x.left-1); x.whole > 0 {
+			wornIn(t, s, o, x.whole)
+		} else {
+			s.run(t, o)
+		}
+		if s.fault() == "" {
+			t.Errorf("%s: it is not found out", x.wrong)
+		}
+	}
+}
