@@ -200,10 +200,8 @@ func (p plain) compare(took map[int]spot, i, j int) int {
 // stand tells whether all orders do.
 func (p plain) stand(took map[int]spot) bool {
 	for _, i := range p.calls() {
-		if !p.passes(check{"a block's Err may be any", isBlock(p.l[i].Op) && p.complete(i) && p.result(i).Err != api.OK}) {
-			return false
-		}
-		if !p.passes(p.also("a bucket's Err is OK", !isBlock(p.l[i].Op) && p.complete(i) && p.result(i).Err != api.OK)) {
+		failed := p.complete(i) && p.result(i).Err != api.OK
+		if !p.passes(check{"a block's Err may be any", failed && isBlock(p.l[i].Op)}, p.also("a bucket's Err is OK", failed && !isBlock(p.l[i].Op))) {
 			return false
 		}
 	}
@@ -367,11 +365,11 @@ func (p plain) comesEarly(order []int, i, place int) bool {
 		if slices.Contains(order[:i], other) || p.end(other) < 0 || p.end(other) >= place {
 			return false
 		}
-		return p.passes(
+		return !p.passes(
 			check{"a complete one that stands later may have returned", p.complete(other) && slices.Contains(order[i:], other)},
 			check{"a complete one that stands nowhere may have returned", p.complete(other) && !slices.Contains(order, other)},
 			check{"one with ErrWorn that stands later may have returned", !p.complete(other) && slices.Contains(order[i:], other)},
 			p.also("one with ErrWorn that stands nowhere may not have returned", !p.complete(other) && !slices.Contains(order, other)),
-		) == false
+		)
 	})
 }
