@@ -120,13 +120,10 @@ func TestP1905Same(t *testing.T) {
 func TestP1905OrderOfServers(t *testing.T) {
 	c := wide()
 	l, want := many(c)
-	newest, bucket, _ := audit.Newest(c, l, blockAt(1))
+	newest, _, _ := audit.Newest(c, l, blockAt(1))
 	for range c.Servers {
 		c.Servers = append(slices.Clone(c.Servers[1:]), c.Servers[0])
 		mustFind(t, c, l, want...)
 		mustBeNewestBlock(t, c, l, blockAt(1), newest)
-		if !sameBucket(bucket, api.Bucket{}) {
-			t.Fatal(bucket)
-		}
 	}
 }

@@ -185,33 +185,15 @@ func traysOf(t testing.TB, c api.Config, l []api.Image) []tray {
 	return all
 }
 
-// Of the disks of a world that a script reaches no fault is told; of some of them neither.
-func TestP1906Worlds(t *testing.T) {
-	t.Parallel()
+// inParts has eight of them work side by side; of what they count there must be enough.
+func inParts(t *testing.T, least int, wanted []string, do func(t *testing.T, part int64, ends map[string]int)) {
 	var lock sync.Mutex
 	ends := map[string]int{}
 	for part := range int64(8) {
 		t.Run(fmt.Sprint(part), func(t *testing.T) {
 			t.Parallel()
 			own := map[string]int{}
-			for seed := part; seed < 2400; seed += 8 {
-				s := newStage(t, seed)
-				s.play(400, func() {
-					l := s.disks(t)
-					if found := faultsOf(t, s.c, l); len(found) > 0 {
-						t.Fatalf("seed %d: %v, of\n%s", seed, found, words(traysOf(t, s.c, l)))
-					}
-					if found := faultsOf(t, s.c, l[:s.Intn(len(l)+1)]); len(found) > 0 {
-						t.Fatalf("seed %d: of some of them: %v", seed, found)
-					}
-				})
-				countDisks(own, slipsOf(s.c, traysOf(t, s.c, s.disks(t))))
-				for _, id := range s.c.Servers {
-					if !s.Up(id) {
-						own["a server that is down"]++
-					}
-				}
-			}
+			do(t, part, own)
 			lock.Lock()
 			defer lock.Unlock()
 			for what, n := range own {
@@ -220,10 +202,36 @@ func TestP1906Worlds(t *testing.T) {
 		})
 	}
 	t.Cleanup(func() {
-		for _, what := range []string{"blocks", "trimmed buckets", "instances that are decided", "instances that are accepted", "instances that are promised",
-			"instances that are forgotten and lie there still", "a server that is down"} {
-			if ends[what] < 100 {
+		for _, what := range wanted {
+			if ends[what] < least {
 				t.Errorf("too few of %q to tell: %v", what, ends)
+			}
+		}
+	})
+}
+
+// Of the disks of a world that a script reaches no fault is told; of some of them neither.
+func TestP1906Worlds(t *testing.T) {
+	t.Parallel()
+	wanted := []string{"blocks", "trimmed buckets", "instances that are decided", "instances that are accepted", "instances that are promised",
+		"instances that are forgotten and lie there still", "a server that is down"}
+	inParts(t, 100, wanted, func(t *testing.T, part int64, ends map[string]int) {
+		for seed := part; seed < 2400; seed += 8 {
+			s := newStage(t, seed)
+			s.play(400, func() {
+				l := s.disks(t)
+				if found := faultsOf(t, s.c, l); len(found) > 0 {
+					t.Fatalf("seed %d: %v, of\n%s", seed, found, words(traysOf(t, s.c, l)))
+				}
+				if found := faultsOf(t, s.c, l[:s.Intn(len(l)+1)]); len(found) > 0 {
+					t.Fatalf("seed %d: of some of them: %v", seed, found)
+				}
+			})
+			countDisks(ends, slipsOf(s.c, traysOf(t, s.c, s.disks(t))))
+			for _, id := range s.c.Servers {
+				if !s.Up(id) {
+					ends["a server that is down"]++
+				}
 			}
 		}
 	})
@@ -252,35 +260,17 @@ func countDisks(ends map[string]int, l []slip) {
 // What disks of worlds hold is looked at by the chapter's words: as it is, and with a record or two spoilt.
 func TestP1902DisksOfWorlds(t *testing.T) {
 	t.Parallel()
-	var lock sync.Mutex
-	ends := map[string]int{}
-	for part := range int64(8) {
-		t.Run(fmt.Sprint(part), func(t *testing.T) {
-			t.Parallel()
-			own := map[string]int{}
-			for seed := part; seed < 320; seed += 8 {
-				s := newStage(t, seed)
-				s.play(250, func() {})
-				l := s.disks(t)
-				look(s.c, traysOf(t, s.c, l), l, 4).mustBePlain(t)
-				for range 8 {
-					m := s.spoiltDisks(t, l)
-					x := look(s.c, traysOf(t, s.c, m), m, 4)
-					x.mustBePlain(t)
-					x.count(own)
-				}
-			}
-			lock.Lock()
-			defer lock.Unlock()
-			for what, n := range own {
-				ends[what] += n
-			}
-		})
-	}
-	t.Cleanup(func() {
-		for _, what := range []string{"kind 1", "kind 3", "kind 4", "kind 5", "no fault"} {
-			if ends[what] < 30 {
-				t.Errorf("too few of %q to tell: %v", what, ends)
+	inParts(t, 30, []string{"kind 1", "kind 3", "kind 4", "kind 5", "no fault"}, func(t *testing.T, part int64, ends map[string]int) {
+		for seed := part; seed < 320; seed += 8 {
+			s := newStage(t, seed)
+			s.play(250, func() {})
+			l := s.disks(t)
+			look(s.c, traysOf(t, s.c, l), l, 4).mustBePlain(t)
+			for range 8 {
+				m := s.spoiltDisks(t, l)
+				x := look(s.c, traysOf(t, s.c, m), m, 4)
+				x.mustBePlain(t)
+				x.count(ends)
 			}
 		}
 	})
