@@ -43,6 +43,14 @@ func okNumbers(l ...int) []string {
 	return okWords(words...)
 }
 
+func faultWords(l []api.Fault) []string {
+	var kinds []int
+	for _, f := range l {
+		kinds = append(kinds, f.Kind)
+	}
+	return okNumbers(kinds...)
+}
+
 // pairOf is how a file and a stamp are written.
 func pairOf(a, b int) string { return strconv.Itoa(a) + "." + strconv.Itoa(b) }
 

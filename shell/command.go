@@ -15,8 +15,8 @@ type deed func(s *session, l []given) []string
 
 // read tells what a line's words are for a command; false: they are none of its.
 func (c command) read(words []string) ([]given, bool) {
-	words, named := words[1:], words[0] == c.name
-	if !named || len(words) < len(c.needs) || len(words) > len(c.needs) && !c.many {
+	name, words := words[0], words[1:]
+	if name != c.name || len(words) < len(c.needs) || len(words) > len(c.needs) && !c.many {
 		return nil, false
 	}
 	var l []given

@@ -148,3 +148,21 @@ func TestP2003Composite(t *testing.T) {
 		"legal => ok 35", "audit => ok",
 	)
 }
+
+// What a Result has of a world is told, and nothing that it has not.
+func TestP2004InAWorld(t *testing.T) {
+	t.Parallel()
+	talk(t, "world 0 1 1 2 2 512 7 => ok",
+		"list 1 0 => ok", "all => ok 5", "result 1 => ok ok @1", // an instance alone
+		"read 1 1.1 0 => ok", "all => ok 2", `result 1 => ok ok "\x00\x00"`, // bytes alone
+		"write 1 1.1 0 ab => ok", "all => ok 4", "result 1 => ok ok 1.1", // a stamp alone
+		"read 1 1.1 0 => ok", "all => ok 2", `result 1 => ok ok "ab" 1.1`,
+		`create 1 "\"" => ok`, "all => ok 5", `result 1 => ok ok "\"" 1.5 0 @2`, // a size of 0 is told
+		`create 1 "\xff" => ok`, "all => ok 5", `result 1 => ok ok "\xff" 1.6 0 @3`,
+		"list 1 0 => ok", "all => ok 5", `result 1 => ok ok "\"" 1.5 0 "\xff" 1.6 0 @4`,
+		`writeat 1 "\"" 0 xyz => ok`, "all => ok 20", `result 1 => ok ok "\"" 1.5 3 3`,
+		`readat 1 "\"" 1 9 => ok`, "all => ok 9", `result 1 => ok ok "\"" 1.5 3 "yz"`,
+		`readat 1 "\"" 3 9 => ok`, "all => ok 5", `result 1 => ok ok "\"" 1.5 3`,
+		"create 1 c => ok", "all => ok 5", "result 1 => ok room", "lookup 1 c => ok", "all => ok 5", "result 1 => ok notfound",
+	)
+}

@@ -172,8 +172,7 @@ func (r lot) wrongWorld() string {
 	return strings.Join(l, " ")
 }
 
-func (r lot) invocation(p *plain) string {
-	c := r.client()
+func (r lot) invocation(p *plain, c string) string {
 	switch r.Intn(16) {
 	case 0, 1, 2:
 		return "create " + c + " " + r.name()
@@ -209,7 +208,7 @@ func (r lot) happening(p *plain) string {
 		n = 0
 	}
 	if n < 55 && p.w != nil && len(p.w.Under()) == 0 && r.Intn(6) > 0 {
-		return r.invocation(p)
+		return r.invocation(p, r.client())
 	}
 	switch {
 	case n < 45:
@@ -270,9 +269,8 @@ func (r lot) lines(p *plain) []string {
 	case n < 4:
 		return []string{oneOf(r, "", " \t", "# x", "frob", `"`, "mend 1 2 frob 0", "mend 1 2 frob 1.1 0", "mend 1 2 block 0", "mend 1 2 bucket 1.1 0", `""`)}
 	case n < 20:
-		line := r.invocation(p)
-		client := strings.Fields(line)[1]
-		return []string{line, "fair " + client + " 60", "result " + client}[:oneOf(r, 1, 3)]
+		c := r.client()
+		return []string{r.invocation(p, c), "fair " + c + " 60", "result " + c}[:oneOf(r, 1, 3)]
 	case n < 26:
 		return []string{"fair " + r.client() + " " + r.number(oneOf(r, 1, 9, 9, 40, 40, 0))}
 	case n < 60:

@@ -4,7 +4,6 @@ import (
 	"fmt"
 	"os"
 	"runtime/debug"
-	"slices"
 	"strings"
 	"testing"
 
@@ -82,7 +81,7 @@ func talk(t testing.TB, lines ...string) {
 	}
 }
 
-// same lines with one answer.
+// all are lines that have one answer, as talk takes them.
 func all(answer string, lines ...string) []string {
 	var l []string
 	for _, line := range lines {
@@ -91,6 +90,5 @@ func all(answer string, lines ...string) []string {
 	return l
 }
 
-func concat(parts ...[]string) []string { return slices.Concat(parts...) }
-
+// words are those of a line that needs no quotes.
 func words(format string, l ...any) []string { return strings.Fields(fmt.Sprintf(format, l...)) }

@@ -40,14 +40,12 @@ func number(word string) (given, bool) {
 
 func address(word string) (given, bool) {
 	id, client := strings.CutPrefix(word, clientMark)
+	server := false
 	if !client {
-		var server bool
-		if id, server = strings.CutPrefix(word, serverMark); !server {
-			return given{}, false
-		}
+		id, server = strings.CutPrefix(word, serverMark)
 	}
 	n, ok := count(id, idDigits)
-	return given{addr: api.Addr{Client: client, Id: n}}, ok
+	return given{addr: api.Addr{Client: client, Id: n}}, ok && (client || server)
 }
 
 func file(word string) (given, bool) {

@@ -147,20 +147,21 @@ func (s *session) legal([]given) []string {
 }
 
 func (s *session) audit([]given) []string {
-	var images []api.Image
-	for _, id := range s.config.Servers {
-		data, _ := s.world.Image(id) // it is the world's
-		images = append(images, api.Image{Server: id, Data: data})
-	}
-	faults, err := audit.Run(s.config, images, workers)
+	faults, err := audit.Run(s.config, s.images(), workers)
 	if err != api.OK {
 		return errorWord(err)
 	}
-	var kinds []int
-	for _, f := range faults {
-		kinds = append(kinds, f.Kind)
+	return faultWords(faults)
+}
+
+// images are all servers' disks.
+func (s *session) images() []api.Image {
+	var all []api.Image
+	for _, id := range s.config.Servers {
+		data, _ := s.world.Image(id) // it is one of the world's
+		all = append(all, api.Image{Server: id, Data: data})
 	}
-	return okNumbers(kinds...)
+	return all
 }
 
 // ring is that of the world, whose configuration is right.
