@@ -397,7 +397,7 @@ func TestT8Mended(t *testing.T) {
 
 // machineOf is whose event a line is: a client's or a server's; "": another's, or none.
 func machineOf(line string) string {
-	f := strings.Fields(line)
+	f := append(strings.Fields(line), "") // a number may be missing
 	switch f[0] {
 	case "create", "remove", "lookup", "list", "setsize", "grow", "replace", "read", "write", "readat", "writeat", "truncate", "copy", "tick", "stop":
 		return "client " + strings.TrimLeft(f[1], "0")
